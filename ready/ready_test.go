@@ -1,0 +1,108 @@
+package ready_test
+
+import (
+	"math"
+	"math/rand"
+	"slices"
+	"testing"
+
+	"punctual/api"
+	"punctual/ready"
+)
+
+// all lets jobs come and work till the time until, one a tick: who did, or Nobody.
+func all(jobs []api.Job, order ready.Order, until int) []int {
+	l := ready.New(jobs, order)
+	var who []int
+	for now := range until {
+		l.Come(now)
+		first := l.First()
+		who = append(who, first)
+		if first != ready.Nobody {
+			l.Work(first)
+		}
+	}
+	return who
+}
+
+func TestOrders(t *testing.T) {
+	jobs := []api.Job{{At: 1, C: 2, Due: 9, P: 3}, {At: 0, C: 2, Due: 9, P: 1}, {At: 0, C: 1, Due: 7, P: 1}, {At: 1, C: 1, Due: 8, P: 3}}
+	for _, c := range []struct {
+		what  string
+		order ready.Order
+		want  []int
+	}{
+		{"Fixed", ready.By(api.Fixed), []int{1, 0, 0, 3, 1, 2, -1}},
+		{"Earliest", ready.By(api.Earliest), []int{2, 3, 1, 1, 0, 0, -1}},
+		{"as they come", ready.InTurn, []int{1, 1, 2, 0, 0, 3, -1}},
+	} {
+		if got := all(jobs, c.order, len(c.want)); !slices.Equal(got, c.want) {
+			t.Errorf("%s: %v, want %v", c.what, got, c.want)
+		}
+	}
+	far := []api.Job{{C: 1, P: math.MinInt}, {C: 1, P: math.MaxInt}, {C: 1, P: 0}}
+	if got := all(far, ready.By(api.Fixed), 3); !slices.Equal(got, []int{1, 2, 0}) {
+		t.Errorf("as far apart as may be: %v", got)
+	}
+}
+
+func TestComeAndWork(t *testing.T) {
+	l := ready.New([]api.Job{{At: 2, C: 2}, {At: 4, C: 1}, {At: 2, C: 1}}, ready.InTurn)
+	for now, want := range []bool{false, false, true, false, true, false} {
+		if got := l.Come(now); got != want {
+			t.Errorf("some come at %d: %v", now, got)
+		}
+	}
+	// One that doesn't go first may work, too.
+	for i, c := range []struct {
+		first, work int
+		done        bool
+	}{{0, 1, true}, {0, 0, false}, {0, 2, true}, {0, 0, true}} {
+		if first := l.First(); first != c.first {
+			t.Errorf("%d: %d goes first", i, first)
+		}
+		if done := l.Work(c.work); done != c.done {
+			t.Errorf("%d: %d is done: %v", i, c.work, done)
+		}
+	}
+	if l.First() != ready.Nobody || l.Come(100) {
+		t.Errorf("%d goes first, though all are done", l.First())
+	}
+	late := ready.New([]api.Job{{At: 3, C: 1}, {At: 9, C: 1}}, ready.InTurn)
+	if !late.Come(5) || late.First() != 0 || late.Come(8) || !late.Come(9) {
+		t.Errorf("those whose times are over don't come")
+	}
+	none := ready.New(nil, ready.By(api.Fixed))
+	if none.Come(0) || none.First() != ready.Nobody {
+		t.Errorf("of no jobs one goes first")
+	}
+}
+
+// TestNothingIsChanged: a line only reads the jobs, and those in the room behind them aren't its own.
+func TestNothingIsChanged(t *testing.T) {
+	r := rand.New(rand.NewSource(1))
+	for range 200 {
+		room := make([]api.Job, 9)
+		for i := range room {
+			room[i] = api.Job{Task: i, At: r.Intn(9), C: 1 + r.Intn(3), Due: r.Intn(5), P: r.Intn(3)}
+		}
+		kept := slices.Clone(room)
+		for _, order := range []ready.Order{ready.By(api.Fixed), ready.By(api.Earliest), ready.InTurn} {
+			who := all(room[:7], order, 40)
+			for i, j := range room[:7] {
+				n := 0
+				for _, w := range who {
+					if w == i {
+						n++
+					}
+				}
+				if n != j.C {
+					t.Errorf("%d has worked %d ticks (%v)", i, n, room)
+				}
+			}
+			if !slices.Equal(room, kept) {
+				t.Fatalf("changed: %v", room)
+			}
+		}
+	}
+}
