@@ -87,3 +87,9 @@ func (l *Line) Work(job int) bool {
 	l.there = slices.Delete(l.there, place, place+1)
 	return true
 }
+
+// GiveUp takes those out of which it holds: they aren't there any more, and don't come.
+func (l *Line) GiveUp(which func(job int) bool) {
+	l.there = slices.DeleteFunc(l.there, func(rank int) bool { return which(l.ranked[rank]) })
+	l.comes = slices.DeleteFunc(l.comes, which)
+}

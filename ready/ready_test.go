@@ -78,6 +78,42 @@ func TestComeAndWork(t *testing.T) {
 	}
 }
 
+func TestGiveUp(t *testing.T) {
+	jobs := []api.Job{{C: 1, P: 1}, {C: 2, P: 4}, {C: 1, P: 3}, {At: 2, C: 1, P: 9}, {At: 3, C: 1, P: 5}, {At: 3, C: 1, P: 0}}
+	for _, c := range []struct {
+		what string
+		gone []int
+		want []int // from time 1 on
+	}{
+		{"nobody", nil, []int{1, 3, 4, 2, 0, 5, -1}},
+		{"one that is there", []int{2}, []int{1, 3, 4, 0, 5, -1}},
+		{"one that has begun, and goes first", []int{1}, []int{2, 3, 4, 0, 5, -1}},
+		{"the last one that is there", []int{0}, []int{1, 3, 4, 2, 5, -1}},
+		{"one that comes next", []int{3}, []int{1, 2, 4, 0, 5, -1}},
+		{"one that comes then", []int{4}, []int{1, 3, 2, 0, 5, -1}},
+		{"some of both", []int{0, 1, 4}, []int{2, 3, 5, -1}},
+		{"all that are there", []int{0, 1, 2}, []int{-1, 3, 4, 5, -1}},
+		{"all that come", []int{3, 4, 5}, []int{1, 2, 0, -1}},
+		{"all", []int{0, 1, 2, 3, 4, 5}, []int{-1, -1, -1}},
+	} {
+		l := ready.New(jobs, ready.By(api.Fixed))
+		l.Come(0)
+		l.Work(1)
+		l.GiveUp(func(job int) bool { return slices.Contains(c.gone, job) })
+		var who []int
+		for now := 1; now <= len(c.want); now++ {
+			l.Come(now)
+			who = append(who, l.First())
+			if l.First() != ready.Nobody {
+				l.Work(l.First())
+			}
+		}
+		if !slices.Equal(who, c.want) {
+			t.Errorf("%s: %v, want %v", c.what, who, c.want)
+		}
+	}
+}
+
 // TestNothingIsChanged: a line only reads the jobs, and those in the room behind them aren't its own.
 func TestNothingIsChanged(t *testing.T) {
 	r := rand.New(rand.NewSource(1))
