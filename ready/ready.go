@@ -77,6 +77,16 @@ func (l *Line) First() int {
 	return l.ranked[l.there[0]]
 }
 
+// Firsts are those that go first of those that are there, up to so many, in the order in which they do: a new list.
+func (l *Line) Firsts(most int) []int {
+	ranks := l.there[:min(most, len(l.there))]
+	firsts := make([]int, len(ranks))
+	for i, rank := range ranks {
+		firsts[i] = l.ranked[rank]
+	}
+	return firsts
+}
+
 // Work lets one that is there run for a tick; it tells whether it is done: it isn't there any more, then.
 func (l *Line) Work(job int) bool {
 	l.left[job]--

@@ -78,6 +78,60 @@ func TestComeAndWork(t *testing.T) {
 	}
 }
 
+func TestFirsts(t *testing.T) {
+	jobs := []api.Job{{C: 1, P: 1}, {C: 2, P: 4}, {At: 1, C: 1, P: 9}, {C: 1, P: 4}, {At: 2, C: 1, P: 4}}
+	l := ready.New(jobs, ready.By(api.Fixed))
+	want := func(most int, want ...int) {
+		t.Helper()
+		if got := l.Firsts(most); !slices.Equal(got, want) {
+			t.Errorf("%d go first: %v, want %v", most, got, want)
+		}
+	}
+	want(2) // nobody is there yet
+	l.Come(0)
+	want(0)
+	want(1, 1)
+	want(2, 1, 3)
+	want(3, 1, 3, 0)
+	want(9, 1, 3, 0)
+	list := l.Firsts(2)
+	for i := range list[:cap(list)] {
+		list[:cap(list)][i] = -9
+	}
+	want(3, 1, 3, 0) // the list is a new one
+	l.Work(3)
+	l.Come(1)
+	want(3, 2, 1, 0)
+	l.Come(2)
+	want(3, 2, 1, 4)
+	for range 2 {
+		l.Work(1)
+	}
+	want(4, 2, 4, 0)
+	for _, job := range l.Firsts(3) {
+		l.Work(job)
+	}
+	want(1)
+	// Whom First tells is the first one of them.
+	r := rand.New(rand.NewSource(2))
+	for range 200 {
+		var made []api.Job
+		for range r.Intn(8) {
+			made = append(made, api.Job{At: r.Intn(4), C: 1 + r.Intn(3), P: r.Intn(3), Due: r.Intn(3)})
+		}
+		l = ready.New(made, ready.By(api.Earliest))
+		for now := range 20 {
+			l.Come(now)
+			if first := l.First(); first == ready.Nobody {
+				want(3)
+			} else {
+				want(1, first)
+				l.Work(first)
+			}
+		}
+	}
+}
+
 func TestGiveUp(t *testing.T) {
 	jobs := []api.Job{{C: 1, P: 1}, {C: 2, P: 4}, {C: 1, P: 3}, {At: 2, C: 1, P: 9}, {At: 3, C: 1, P: 5}, {At: 3, C: 1, P: 0}}
 	for _, c := range []struct {
