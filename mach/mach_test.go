@@ -274,6 +274,30 @@ func TestMachines(t *testing.T) {
 	}
 }
 
+// TestCopies: copies of a machine that has had no tick yet go each their own way, and it stays at the beginning.
+func TestCopies(t *testing.T) {
+	image := []api.Ins{count(0, 3), push(1), load(0), plain(api.IAdd), store(0), load(0), out(1), again(0, 1)}
+	first := start(t, image, make([]int, 8), make([]int, 4))
+	a, b := *first, *first
+	for !a.Done() {
+		a.Tick()
+		a.Tick()
+		b.Tick()
+	}
+	if b.Done() || len(b.Puts()) != 2 || first.At() != 0 || len(first.Puts()) != 0 {
+		t.Errorf("in the midst: %v, %d %v", b.Puts(), first.At(), first.Puts())
+	}
+	for !b.Done() {
+		b.Tick()
+	}
+	want, _ := mach.Run(image, make([]int, 8), make([]int, 4))
+	for _, m := range []*mach.Machine{&a, &b} {
+		if !slices.Equal(m.Vars(), want.Vars) || !slices.Equal(m.Puts(), want.Puts) {
+			t.Errorf("%v %v, want %v", m.Vars(), m.Puts(), want)
+		}
+	}
+}
+
 // TestMemory: what is handed in isn't changed and isn't kept, and what is handed out is new.
 func TestMemory(t *testing.T) {
 	room := []api.Ins{push(3), out(2), load(0), input(1), plain(api.IAdd), store(0), load(0), out(0), work(9), work(9)}
