@@ -98,6 +98,9 @@ func (l *Line) Work(job int) bool {
 	return true
 }
 
+// Redo gives one that is there so many of the ticks back that it has run: it has to run them anew.
+func (l *Line) Redo(job, ticks int) { l.left[job] += ticks }
+
 // GiveUp takes those out of which it holds: they aren't there any more, and don't come.
 func (l *Line) GiveUp(which func(job int) bool) {
 	l.there = slices.DeleteFunc(l.there, func(rank int) bool { return which(l.ranked[rank]) })

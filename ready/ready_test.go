@@ -132,6 +132,42 @@ func TestFirsts(t *testing.T) {
 	}
 }
 
+func TestRedo(t *testing.T) {
+	jobs := []api.Job{{C: 3, P: 1}, {At: 2, C: 2, P: 2}}
+	l := ready.New(jobs, ready.By(api.Fixed))
+	l.Come(0)
+	work := func(job int, done bool) {
+		t.Helper()
+		if first := l.First(); first != job {
+			t.Errorf("%d goes first, want %d", first, job)
+		}
+		if got := l.Work(job); got != done {
+			t.Errorf("%d is done: %v", job, got)
+		}
+	}
+	work(0, false)
+	work(0, false)
+	l.Redo(0, 2)
+	work(0, false)
+	work(0, false)
+	l.Redo(0, 1)
+	l.Redo(0, 0)
+	work(0, false)
+	l.Come(2)
+	// One of which nothing was undone has no more to run, and one that waits keeps what it has.
+	work(1, false)
+	l.Redo(1, 1)
+	work(1, false)
+	work(1, true)
+	work(0, true)
+	if first := l.First(); first != ready.Nobody {
+		t.Errorf("%d goes first, though all are done", first)
+	}
+	if jobs[0].C != 3 || jobs[1].C != 2 {
+		t.Errorf("changed: %v", jobs)
+	}
+}
+
 func TestGiveUp(t *testing.T) {
 	jobs := []api.Job{{C: 1, P: 1}, {C: 2, P: 4}, {C: 1, P: 3}, {At: 2, C: 1, P: 9}, {At: 3, C: 1, P: 5}, {At: 3, C: 1, P: 0}}
 	for _, c := range []struct {
